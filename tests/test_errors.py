@@ -31,7 +31,8 @@ class Silent:
     __hash__ = None
 
 
-OBJECTS = ("", "Name", 0, -3, 10 ** 300, 1.5, True, False, None, (), (1, ("a",)), [], [1, [2]], {}, object(), Silent(), int)
+OBJECTS = ("", "Name", 0, -3, 10 ** 300, 1.5, True, False, None, (), (1, ("a",)), [], [1, [2]], {}, object(),
+    Silent(), int)
 
 
 class ErrorsTest(unittest.TestCase):

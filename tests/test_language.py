@@ -135,7 +135,8 @@ class LanguageTest(unittest.TestCase):
                         self.assertIn(alias.name, LIBRARY[node.module], place)
                     else:
                         defined = [getattr(row, "name", None) for row in files[node.module].body]
-                        defined += [row.targets[0].id for row in files[node.module].body if isinstance(row, ast.Assign)]
+                        defined += [row.targets[0].id for row in files[node.module].body if isinstance(row,
+                            ast.Assign)]
                         self.assertIn(alias.name, defined, place)
 
     def test_no_imports_in_a_circle(self):
