@@ -253,7 +253,9 @@ class ArgumentsTest(TextTest):
             ("f(a=1, b)", 1, 8), ("f(a for b in c, d)", 1, 14), ("f(a, b for c in d)", 1, 7), ("f(**a, b)", 1, 8),
             ("f(**a, *b)", 1, 7), ("f(a=1, 2)", 1, 7), ("f(a=1, b := 2)", 1, 9), ("f(,)", 1, 2), ("f(a,,)", 1, 4),
             ("f(a.b=1)", 1, 5),
-            ("f((a)=1)", 1, 5), ("f(1=a)", 1, 3), ("f(a=b for c in d)", 1, 6), ("f(*a for b in c)", 1, 5),
+            ("f((a)=1)", 1, 5), ("f(1=a)", 1, 3), ("f(a=b for c in d)", 1, 6), ("f(a, b=c for d in e)", 1, 9),
+            ("f(b=c, *a for d in e)", 1, 10), ("f(*a, b for c in d)", 1, 8), ("f(a, *b for c in d)", 1, 8),
+            ("f(a, **b for c in d)", 1, 9), ("f(*a for b in c)", 1, 5),
             ("f(**a for b in c)", 1, 6), ("f(a for b in c,)", 1, 14), ("f(a b)", 1, 4), ("f(a=)", 1, 4),
             ("f(*)", 1, 3), ("f(**)", 1, 4), ("f(a=1, *b, c)", 1, 12),
             ("f(yield)", 1, 2), ("f(a=*b)", 1, 4), ("f(*a=b)", 1, 4), ("f(a=1, lambda: b)", 1, 7),
@@ -427,6 +429,41 @@ class ParametersTest(TextTest):
         self.assert_refused(("def f(a=1, b): c", 1, 12), ("def f(*, ): c", 1, 9), ("lambda *: a", 1, 8),
             ("lambda *,: a", 1, 9), ("lambda a=1, b, c: d", 1, 13), ("def f(a=1, b: c): d", 1, 15),
             ("def f(a=1, /, b): c", 1, 15))
+
+
+class BeginningsTest(TextTest):
+    """Behind a comma, and where an expression may be missing, each token that begins one is taken."""
+
+    ATOMS = ["a", "1 ", "'a'", "f'a'", "...", "None", "True", "False", "(a)", "[a]", "{a}", "b'a'", "match"]
+    EXPRESSIONS = ATOMS + ["-a", "+a", "~a", "not a", "lambda: a", "await a"]
+
+    def test_targets(self):
+        for text in self.ATOMS + ["*a"]:
+            self.assert_read(f"for x, {text}.b in c: d", f"[a for x, {text}[b] in c]")
+            if text != "*a":
+                self.assert_read(f"del x, {text}.b", f"del x, {text}[b],")
+        for text in self.EXPRESSIONS[len(self.ATOMS):] + ["yield", "pass"]:
+            self.assert_refused((f"del x, {text}", 1, 7), (f"for x, {text} in c: d", 1, 7))
+
+    def test_expressions(self):
+        for text in self.EXPRESSIONS:
+            self.assert_read(
+                f"x, {text}", f"return {text}", f"return x, {text}", f"yield {text}", f"yield x, {text}",
+                f"raise {text}",
+                f"x[{text}:]", f"x[:{text}]", f"x[::{text}]", f"try: x\nexcept {text}: y", f"x = y, {text}",
+                f"for x in y, {text}: z", f"match x, {text}:\n case y: z", f"f({text})", f"f(x, {text})",
+                f"[x, {text}]",
+                f"(x, {text})", f"{{x, {text}}}", f"x[y, {text}]", f"{{x: y, {text}: z}}", f"class A({text}): x",
+            )
+            self.assertIsNone(refused(f"x, {text}", "eval"))
+        self.assert_read("x, *a", "return x, *a", "yield x, *a", "for x in y, *a: z", "match x, *a:\n case y: z")
+
+    def test_patterns(self):
+        for text in ("1", "-1", "'a'", "b'a'", "None", "True", "False", "a", "_", "(a)", "[a]", "{}", "*a", "a.b",
+            "A()"):
+            self.assert_read(f"match x:\n case y, {text}: z")
+        for text in ("f'a'", "+1", "...", "not a", "lambda: a", "**a"):
+            self.assert_refused((f"match x:\n case y, {text}: z", 2, 9))
 
 
 class ConstantsTest(TextTest):

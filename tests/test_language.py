@@ -191,6 +191,44 @@ class LanguageTest(unittest.TestCase):
             )))
             self.assertFalse(names & NOWHERE, path.name)
 
+    def test_no_local_name_of_an_import_or_a_class(self):
+        for path, tree in self.trees.items():
+            taken = {alias.name for node in tree.body if isinstance(node, ast.ImportFrom) for alias in node.names}
+            taken |= {node.name for node in tree.body if isinstance(node, ast.ClassDef)}
+            for function in ast.walk(tree):
+                if isinstance(function, ast.FunctionDef):
+                    inner = own_names(function) - {function.name}
+                    self.assertFalse(inner & taken, f"{path.name}: {function.name}")
+
+    def test_methods_and_attributes_have_different_names(self):
+        methods, attributes = set(), set()
+        for tree in self.trees.values():
+            methods |= {method.name for _, method in methods_of(tree)}
+            attributes |= {
+                node.attr for node in ast.walk(tree)
+                if isinstance(node, ast.Attribute) and isinstance(node.ctx, ast.Store)
+            }
+        self.assertFalse(methods & attributes)
+        self.assertFalse(attributes & {
+            "items", "keys", "values", "pop", "update", "append", "clear", "extend", "insert", "remove", "reverse",
+            "setdefault", "sort", "args", "encode", "decode", "hex", "fromhex", "format", "real", "imag", "numerator",
+        })
+
+    def test_what_is_iterated_on_the_spot(self):
+        """zip, reversed and the like stand in loops, comprehensions, and calls that take them at once."""
+        for place, node in self.each_node():
+            allowed = []
+            if isinstance(node, (ast.For, ast.comprehension)):
+                allowed = [node.iter]
+            elif isinstance(node, ast.Call) and isinstance(node.func, ast.Name):
+                if node.func.id in ("list", "tuple", "dict", "sorted", "sum", "any", "all", "enumerate", "zip",
+                    "reversed"):
+                    allowed = node.args[:1]
+            for part in ast.iter_child_nodes(node):
+                if isinstance(part, ast.Call) and isinstance(part.func, ast.Name):
+                    if part.func.id in ("zip", "enumerate", "reversed", "range", "map"):
+                        self.assertIn(part, allowed, place)
+
     def test_methods_of_builtin_values(self):
         own = {method.name for tree in self.trees.values() for _, method in methods_of(tree)}
         for place, node in self.each_node():

@@ -161,7 +161,8 @@ class LayoutTest(WritingTest):
         self.assert_written(
             ("import  a . b", "import a.b"), ("from . . . import(a,b as c,)", "from ... import a, b as c"),
             ("from ....a import b", "from ....a import b"), ("global a ,b", "global a, b"),
-            ("nonlocal a", "nonlocal a"), ("raise", "raise"), ("raise(a)", "raise a"), ("assert(a)", "assert a"),
+            ("nonlocal a", "nonlocal a"), ("nonlocal a ,b", "nonlocal a, b"), ("raise", "raise"),
+            ("raise(a)", "raise a"), ("assert(a)", "assert a"),
             ("del(a)", "del a"), ("a=b=c", "a = b = c"), ("a:b=c", "a: b = c"), ("x= yield", "x = yield"),
             ("break;continue", "break\ncontinue"),
             ("f(a=1,*b)", "f(*b, a=1)"), ("f(a, **b, c=d)", "f(a, **b, c=d)"),

@@ -9,6 +9,8 @@ from treequill.errors import BadText
 from treequill.nodes import Node
 from treequill.tokens import LAYOUT
 
+STARS = ("Starred", "MatchStar")
+
 
 class Cursor:
     def __init__(self, tokens):
@@ -44,6 +46,16 @@ class Cursor:
         if self.peek() != kind:
             self.fail()
         return self.take()
+
+    def goes_on(self, starts):
+        """Go on behind a comma, and tell whether a token of one of these kinds stands there."""
+        return self.accept(",") and self.peek() in starts
+
+    def alone(self, node):
+        """Return what no comma stands behind: a star needs one."""
+        if node.kind in STARS:
+            self.fail()
+        return node
 
     def take_name(self):
         return self.expect("NAME").text

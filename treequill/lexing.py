@@ -5,7 +5,7 @@ from treequill.quoting import PREFIXES, QUOTES, quote_at, string_at, text_at
 from treequill.tokens import BRACKETS, CLOSING, KEYWORDS, SIGNS, Token
 
 
-class Open:
+class Bracket:
     """What is open at a place: a bracket, the text of an f-string, or a field or a spec in one.
 
     kind is the bracket, or one of the words text, field and spec; inner is True for a field in a spec.
@@ -159,7 +159,7 @@ class Lexer:
         raw, octets, fields = PREFIXES[prefix]
         if fields:
             self.add_token("FSTRING", body)
-            self.opened.append(Open("text", quote, raw, False))
+            self.opened.append(Bracket("text", quote, raw, False))
             return
         value, end = string_at(self.text, body, quote, raw, octets)
         token = self.add_token("STRING", end)
@@ -184,7 +184,7 @@ class Lexer:
     def cut_bracket(self, sign):
         """Take a sign, which may open or close a bracket."""
         if sign in BRACKETS:
-            self.opened.append(Open(sign, "", False, False))
+            self.opened.append(Bracket(sign, "", False, False))
         elif sign in CLOSING:
             closes = "}" if self.within() == "field" else BRACKETS.get(self.within())
             if sign != closes:
@@ -202,7 +202,7 @@ class Lexer:
                 # A field in a spec has no spec of its own.
                 self.tokens[-1].kind = "BAD"
             else:
-                self.opened.append(Open("spec", "", False, False))
+                self.opened.append(Bracket("spec", "", False, False))
 
     def cut_text(self):
         """Take the text of an f-string up to the next field, or the end of the f-string."""
@@ -221,7 +221,7 @@ class Lexer:
 
     def open_field(self, inner):
         self.add_token("FIELD", self.at + 1)
-        self.opened.append(Open("field", "", False, inner))
+        self.opened.append(Bracket("field", "", False, inner))
 
     def cut_spec(self):
         """Take the text of a spec up to the next field, or the end of the spec."""

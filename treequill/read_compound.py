@@ -2,6 +2,8 @@
 
 from treequill.errors import BadText
 from treequill.nodes import Node
+from treequill.read_displays import EXPRESSION_STARTS
+from treequill.read_expressions import LISTING_STARTS
 from treequill.read_simple import SimpleReader
 
 
@@ -18,11 +20,8 @@ class ProgramReader(SimpleReader):
         node = self.expression()
         if self.peek() == ",":
             elts = [node]
-            while self.accept(","):
-                element = self.expression_if_any()
-                if element is None:
-                    break
-                elts.append(element)
+            while self.goes_on(EXPRESSION_STARTS):
+                elts.append(self.expression())
             node = self.make(start, "Tuple", elts)
         while self.accept("NEWLINE"):
             pass
@@ -114,7 +113,7 @@ class ProgramReader(SimpleReader):
 
     def with_statement(self, start, kind):
         self.expect("with")
-        items = self.items_in_brackets_or_not() if self.peek() == "(" else self.items_before_colon()
+        items = self.items_in_brackets_or_not() if self.peek() == "(" else self.plain_items()
         return self.make(start, kind, items, self.block())
 
     def items_in_brackets_or_not(self):
@@ -129,7 +128,7 @@ class ProgramReader(SimpleReader):
     def items_or_beyond(self, place):
         """Read items; if they fail, refuse what is further away: their own token, or the one at a place."""
         try:
-            return self.items_before_colon()
+            return self.plain_items()
         except BadText as error:
             line, column = max(place, (error.lineno, error.col_offset))
             raise BadText(line, column)
@@ -146,12 +145,10 @@ class ProgramReader(SimpleReader):
             self.fail()
         return items
 
-    def items_before_colon(self):
+    def plain_items(self):
         items = [self.item()]
         while self.accept(","):
             items.append(self.item())
-        if self.peek() != ":":
-            self.fail()
         return items
 
     def item(self):
@@ -221,20 +218,21 @@ class ProgramReader(SimpleReader):
 
     def match_head(self):
         self.take()
-        start = self.place()
-        first = self.element()
-        if first.kind == "Starred" and self.peek() != ",":
-            self.fail()
-        subject = first
-        if self.peek() == ",":
-            elts = [first]
-            while self.accept(",") and self.peek() != ":":
-                elts.append(self.element())
-            subject = self.make(start, "Tuple", elts)
+        subject = self.subject()
         self.expect(":")
         self.expect("NEWLINE")
         self.expect("INDENT")
         return subject
+
+    def subject(self):
+        start = self.place()
+        first = self.element()
+        if self.peek() != ",":
+            return self.alone(first)
+        elts = [first]
+        while self.goes_on(LISTING_STARTS):
+            elts.append(self.element())
+        return self.make(start, "Tuple", elts)
 
     def case(self):
         """Read one case; its first word is a name elsewhere."""

@@ -5,6 +5,7 @@ from treequill.read_strings import StringReader
 from treequill.targets import can_be_target, set_context
 
 ATOM_STARTS = ("NAME", "NUMBER", "STRING", "FSTRING", "...", "None", "True", "False", "(", "[", "{")
+TARGET_STARTS = ("NAME", "NUMBER", "STRING", "FSTRING", "...", "None", "True", "False", "(", "[", "{", "*")
 EXPRESSION_STARTS = (
     "NAME", "NUMBER", "STRING", "FSTRING", "...", "None", "True", "False", "(", "[", "{",
     "-", "+", "~", "not", "lambda", "await",
@@ -120,14 +121,10 @@ class DisplayReader(StringReader):
         """Read the targets of a comprehension or a for."""
         start = self.place()
         first = self.star_or_target()
-        if first.kind == "Starred" and self.peek() != ",":
-            self.fail()
         if self.peek() != ",":
-            return first
+            return self.alone(first)
         elts = [first]
-        while self.accept(","):
-            if self.peek() != "*" and self.peek() not in ATOM_STARTS:
-                break
+        while self.goes_on(TARGET_STARTS):
             elts.append(self.star_or_target())
         node = self.make(start, "Tuple", elts)
         set_context(node, "Store")
@@ -152,31 +149,31 @@ class DisplayReader(StringReader):
         """Read arguments in their brackets: return the lists of args and keywords."""
         start = self.place()
         self.expect("(")
-        args, keywords = [], []
+        positional, keywords = [], []
         while self.peek() != ")":
-            self.argument(args, keywords)
-            alone = may_generate and len(args) == 1 and not keywords and args[0].kind != "Starred"
+            self.argument(positional, keywords)
+            alone = may_generate and len(positional) == 1 and not keywords and positional[0].kind != "Starred"
             if alone and self.peek() in COMPREHENSION_STARTS:
-                return [self.comprehension_of(start, "GeneratorExp", args, ")")], []
+                return [self.comprehension_of(start, "GeneratorExp", positional, ")")], []
             if not self.accept(","):
                 break
         self.expect(")")
-        return args, keywords
+        return positional, keywords
 
-    def argument(self, args, keywords):
+    def argument(self, positional, keywords):
         """Read an argument, and add it to one of the lists."""
         start = self.place()
         if self.accept("**"):
             keywords.append(self.make(start, "keyword", None, self.expression()))
         elif self.peek() == "*" and all([keyword["arg"] is not None for keyword in keywords]):
             self.take()
-            args.append(self.make(start, "Starred", self.expression()))
+            positional.append(self.make(start, "Starred", self.expression()))
         elif keywords or self.begins("NAME", "="):
             name = self.take_name()
             self.expect("=")
             keywords.append(self.make(start, "keyword", name, self.expression()))
         else:
-            args.append(self.named())
+            positional.append(self.named())
 
     def subscript(self):
         """Read what stands in the brackets of a subscript, and the bracket behind it."""

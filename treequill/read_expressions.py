@@ -2,11 +2,15 @@
 
 from treequill.nodes import Node
 from treequill.operators import BINARY, COMPARISONS, UNARY
-from treequill.read_displays import EXPRESSION_STARTS, DisplayReader
+from treequill.read_displays import DisplayReader
 from treequill.targets import set_context
 from treequill.values import Dots
 
 STRINGS = ("STRING", "FSTRING")
+LISTING_STARTS = (
+    "NAME", "NUMBER", "STRING", "FSTRING", "...", "None", "True", "False", "(", "[", "{",
+    "-", "+", "~", "not", "lambda", "await", "*",
+)
 SINGLETONS = {"None": None, "True": True, "False": False}
 
 
@@ -24,22 +28,15 @@ class ExpressionReader(DisplayReader):
         return self.make(start, "Yield", self.listing_if_any())
 
     def listing_if_any(self):
-        return self.listing() if self.begins_listing() else None
-
-    def begins_listing(self):
-        return self.peek() == "*" or self.peek() in EXPRESSION_STARTS
+        return self.listing() if self.peek() in LISTING_STARTS else None
 
     def listing(self):
         start = self.place()
         first = self.star_or_expression()
-        if first.kind == "Starred" and self.peek() != ",":
-            self.fail()
         if self.peek() != ",":
-            return first
+            return self.alone(first)
         elts = [first]
-        while self.accept(","):
-            if not self.begins_listing():
-                break
+        while self.goes_on(LISTING_STARTS):
             elts.append(self.star_or_expression())
         return self.make(start, "Tuple", elts)
 
@@ -160,8 +157,8 @@ class ExpressionReader(DisplayReader):
             if self.accept("."):
                 node = self.make(start, "Attribute", node, self.take_name())
             elif self.peek() == "(":
-                args, keywords = self.arguments(True)
-                node = self.make(start, "Call", node, args, keywords)
+                positional, keywords = self.arguments(True)
+                node = self.make(start, "Call", node, positional, keywords)
             elif self.accept("["):
                 item = self.subscript()
                 node = self.make(start, "Subscript", node, item)

@@ -4,7 +4,7 @@ from treequill.nodes import Node
 from treequill.read_expressions import SINGLETONS, ExpressionReader
 from treequill.values import Imaginary
 
-PATTERN_STARTS = ("NUMBER", "-", "STRING", "None", "True", "False", "NAME", "(", "[", "{")
+PATTERN_STARTS = ("NUMBER", "-", "STRING", "None", "True", "False", "NAME", "(", "[", "{", "*")
 
 
 class PatternReader(ExpressionReader):
@@ -12,14 +12,10 @@ class PatternReader(ExpressionReader):
         """Read the whole pattern of a case, in which commas need no brackets."""
         start = self.place()
         first = self.star_or_pattern()
-        if first.kind == "MatchStar" and self.peek() != ",":
-            self.fail()
         if self.peek() != ",":
-            return first
+            return self.alone(first)
         patterns = [first]
-        while self.accept(","):
-            if self.peek() != "*" and self.peek() not in PATTERN_STARTS:
-                break
+        while self.goes_on(PATTERN_STARTS):
             patterns.append(self.star_or_pattern())
         return self.make(start, "MatchSequence", patterns)
 

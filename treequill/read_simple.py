@@ -59,9 +59,7 @@ class SimpleReader(PatternReader):
         start = self.place()
         self.take()
         targets = [self.target("Del")]
-        while self.accept(","):
-            if self.peek() not in ATOM_STARTS:
-                break
+        while self.goes_on(ATOM_STARTS):
             targets.append(self.target("Del"))
         return self.make(start, "Delete", targets)
 
