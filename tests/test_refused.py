@@ -2,6 +2,9 @@
 
 import unittest
 
+from treequill.nodes import is_tree
+from treequill.reading import parse
+
 from grammar import Speaker, place_of_error
 from helping import refused
 
@@ -39,6 +42,7 @@ class RefusedTest(unittest.TestCase):
         for text in PROGRAMS:
             self.assertIsNone(refused(text), text)
             self.assertIsNone(place_of_error(text), text)
+            self.assertTrue(is_tree(parse(text)), text)
 
     def test_texts_that_are_cut_off(self):
         for text in PROGRAMS:

@@ -177,6 +177,12 @@ class NumbersTest(TextTest):
             self.assertEqual(refused(f"a = {text}"), (1, 4), text)
             self.assertEqual(refused(f"f({text})"), (1, 2), text)
 
+    def test_ends_of_numbers(self):
+        self.assertEqual(expression("0o7 if 0b1 else 0xf"), "IfExp(Constant(1), Constant(7), Constant(15))")
+        for text in ("0", "00", "12_3", "0o7", "0b1", "0xf", "1.5", "1.", ".5", "1e5", "1j", "0_1.5e0_1J"):
+            node = parse(f"{text} ;")["body"][0]["value"]
+            self.assertEqual(place(node), (1, 0, 1, len(text)), text)
+
     def test_signs_behind_numbers(self):
         self.assert_expressions(
             ("1..real", "Attribute(Constant(Float(1, 0)), 'real')"), ("1 .real", "Attribute(Constant(1), 'real')"),

@@ -13,6 +13,8 @@ STARS = ("Starred", "MatchStar")
 
 
 class Cursor:
+    """Goes through the tokens of a text, the last of which is END or BAD."""
+
     def __init__(self, tokens):
         self.tokens = tokens
         self.at = 0

@@ -117,16 +117,13 @@ class ExpressionReader(DisplayReader):
             return "is not"
         return sign
 
-    def bit_or(self):
-        return self.binary(0)
-
-    def binary(self, rank):
+    def bit_or(self, rank=0):
         """Read operators with two sides that are of this rank at least."""
         start = self.place()
         left = self.factor()
         while self.peek() in BINARY and BINARY[self.peek()][1] >= rank:
             kind, own = BINARY[self.take().kind]
-            right = self.binary(own + 1)
+            right = self.bit_or(own + 1)
             left = self.make(start, "BinOp", left, Node(kind), right)
         return left
 
@@ -139,16 +136,13 @@ class ExpressionReader(DisplayReader):
 
     def power(self):
         start = self.place()
-        left = self.awaited()
+        if self.accept("await"):
+            left = self.make(start, "Await", self.primary())
+        else:
+            left = self.primary()
         if not self.accept("**"):
             return left
         return self.make(start, "BinOp", left, Node("Pow"), self.factor())
-
-    def awaited(self):
-        start = self.place()
-        if not self.accept("await"):
-            return self.primary()
-        return self.make(start, "Await", self.primary())
 
     def primary(self):
         start = self.place()

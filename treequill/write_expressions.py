@@ -25,20 +25,15 @@ IN_SLICE = ("Yield", "YieldFrom")
 def expression_text(node, wanted, spot="", barred=()):
     """Return the text of an expression, in brackets if its rank is below the wanted one, or its kind is barred.
 
-    The spot tells of its place what matters in it: target; slice; subject; argument, where the value of a
-    Starred is any expression; field, for one that no bracket within a field of a JoinedStr is around; and
-    brackets, if it has some.
+    The spot tells of its place what matters in it: slice; subject; argument, where the value of a Starred is
+    any expression; field, for one that no bracket within a field of a JoinedStr is around; and brackets, if
+    it has some. Targets need no spot: each of them is a tuple, or an expression of the highest rank.
     """
     bare = spot == "field" and node.kind == "Lambda"
     write = WRITERS[node.kind]
     if rank_of(node) >= wanted and node.kind not in barred and not bare:
         return write(node, spot)
-    text = write(node, spot if spot == "target" else "brackets")
-    return f"({text})"
-
-
-def target_text(node, wanted):
-    return expression_text(node, wanted, "target")
+    return f"({write(node, 'brackets')})"
 
 
 def result_text(node):
@@ -67,7 +62,7 @@ def _bool_op(node, spot):
 
 
 def _named_expr(node, spot):
-    return f"{target_text(node['target'], PRIMARY)} := {plain_text(node['value'])}"
+    return f"{node['target']['id']} := {plain_text(node['value'])}"
 
 
 def _bin_op(node, spot):
@@ -135,7 +130,7 @@ def _generators_text(node):
     text = ""
     for row in node["generators"]:
         text += " async for " if row["is_async"] == 1 else " for "
-        text += f"{target_text(row['target'], ANYTHING)} in {expression_text(row['iter'], DISJUNCTION)}"
+        text += f"{expression_text(row['target'], ANYTHING)} in {expression_text(row['iter'], DISJUNCTION)}"
         for test in row["ifs"]:
             text += " if " + expression_text(test, DISJUNCTION)
     return text
@@ -223,8 +218,6 @@ def _subscript(node, spot):
 
 
 def _starred(node, spot):
-    if spot == "target":
-        return "*" + target_text(node["value"], PRIMARY)
     return "*" + expression_text(node["value"], EXPRESSION if spot == "argument" else OPERAND)
 
 
@@ -233,8 +226,6 @@ def _name(node, spot):
 
 
 def _list(node, spot):
-    if spot == "target":
-        return "[" + ", ".join([target_text(item, PRIMARY) for item in node["elts"]]) + "]"
     return "[" + ", ".join([element_text(item) for item in node["elts"]]) + "]"
 
 
@@ -243,9 +234,7 @@ def _tuple(node, spot):
     if not elts:
         return "()"
     wanted, inner = EXPRESSION, _field_or_none(spot)
-    if spot == "target":
-        wanted, inner = PRIMARY, "target"
-    elif spot == "slice":
+    if spot == "slice":
         wanted, inner = ELEMENT, "argument"
     elif spot in ("subject", "brackets"):
         wanted = ELEMENT

@@ -3,7 +3,7 @@
 from treequill.ranks import ANYTHING, EXPRESSION, PRIMARY
 from treequill.write_expressions import (
     BINARY_SIGNS, IN_SLICE, arguments_text, element_text, expression_text, listing_text, parameters_text, plain_text,
-    result_text, target_text,
+    result_text,
 )
 from treequill.write_patterns import whole_pattern_text
 
@@ -46,21 +46,21 @@ def _return(node):
 
 
 def _delete(node):
-    return "del " + ", ".join([target_text(target, PRIMARY) for target in node["targets"]])
+    return "del " + ", ".join([expression_text(target, PRIMARY) for target in node["targets"]])
 
 
 def _assign(node):
-    targets = [target_text(target, ANYTHING) for target in node["targets"]]
+    targets = [expression_text(target, ANYTHING) for target in node["targets"]]
     return " = ".join(targets + [result_text(node["value"])])
 
 
 def _aug_assign(node):
     sign = BINARY_SIGNS[node["op"].kind]
-    return f"{target_text(node['target'], EXPRESSION)} {sign}= {result_text(node['value'])}"
+    return f"{expression_text(node['target'], EXPRESSION)} {sign}= {result_text(node['value'])}"
 
 
 def _ann_assign(node):
-    target = target_text(node["target"], EXPRESSION)
+    target = expression_text(node["target"], EXPRESSION)
     if node["target"].kind == "Name" and node["simple"] == 0:
         target = f"({target})"
     text = f"{target}: {plain_text(node['annotation'])}"
@@ -142,7 +142,7 @@ def _async_for(node):
 
 
 def _for_lines(word, node):
-    head = f"{word} {target_text(node['target'], ANYTHING)} in {listing_text(node['iter'])}:"
+    head = f"{word} {expression_text(node['target'], ANYTHING)} in {listing_text(node['iter'])}:"
     return _block(head, node["body"]) + _block("else:", node["orelse"])
 
 
@@ -175,7 +175,7 @@ def _items_text(items):
         if len(items) == 1 and _reads_as_items(item):
             text = f"({text})"
         if item["optional_vars"] is not None:
-            text += " as " + target_text(item["optional_vars"], PRIMARY)
+            text += " as " + expression_text(item["optional_vars"], PRIMARY)
         texts.append(text)
     return ", ".join(texts)
 
