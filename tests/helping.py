@@ -1,6 +1,6 @@
 """What the tests of reading and writing share; none of it uses the program's own walks and comparisons."""
 
-from treequill.errors import BadText, NoText
+from treequill.errors import BadNode, BadText, NoText
 from treequill.lexing import Lexer
 from treequill.nodes import Node, fields_of
 from treequill.reading import parse
@@ -8,6 +8,32 @@ from treequill.values import Dots, Float, Imaginary, Octets
 from treequill.writing import unparse
 
 from table import GROUPS
+
+
+class Likeness:
+    """An object that has what nodes have, says that it equals everything, and is none."""
+
+    kind = "Name"
+    lineno = col_offset = end_lineno = end_col_offset = 1
+
+    def __eq__(self, other):
+        return True
+
+    def __getitem__(self, at):
+        return "a"
+
+    __hash__ = None
+
+
+# Objects of many sorts that are no nodes; strings stand apart, as some functions take texts.
+NO_NODES = (
+    None, True, False, 0, 1, -1, 1.5, 1j, b"", b"Name", (), (1,), [], [1], {}, {"kind": "Name"}, set(), ..., object(),
+    object, Node, str, len, NotImplemented, range(3), lambda: 1, Likeness(), Likeness, Dots(), Float(1, 2), Dots,
+    Imaginary(Float(1, 2)), Octets((1,)), BadNode(), BadNode, parse, slice(None), (Node("Pass"),), [Node("Pass")],
+    {"body": Node("Pass")}, iter([Node("Pass")]),
+)
+NO_NODES_BUT_STRINGS = ("", "Name", "a = 1", "Module(body=[])")
+ATTRIBUTES = ("lineno", "col_offset", "end_lineno", "end_col_offset")
 
 
 def short(thing):
@@ -69,6 +95,25 @@ def segment(text, node):
     if first == last:
         return lines[first - 1][column:end]
     return "\n".join([lines[first - 1][column:], *lines[first:last - 1], lines[last - 1][:end]])
+
+
+def snapshot(thing):
+    """Return all that a node or list holds, with the objects themselves, so that two looks at it can be compared."""
+    if isinstance(thing, Node):
+        fields = [(name, snapshot(thing[name])) for name in fields_of(thing.kind)]
+        return id(thing), thing.kind, [id(getattr(thing, name)) for name in ATTRIBUTES], fields
+    if isinstance(thing, (list, tuple)):
+        return id(thing), [snapshot(item) for item in thing]
+    return id(thing)
+
+
+def nodes_and_lists(thing):
+    """Return the ids of all nodes and lists in a node, also those in lists within lists."""
+    if isinstance(thing, Node):
+        return [id(thing)] + [found for name in fields_of(thing.kind) for found in nodes_and_lists(thing[name])]
+    if isinstance(thing, list):
+        return [id(thing)] + [found for item in thing for found in nodes_and_lists(item)]
+    return []
 
 
 def nodes_in(node):

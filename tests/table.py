@@ -76,6 +76,7 @@ def read_table():
 
 TABLE = read_table()
 KINDS = list(TABLE)
+MARKED = re.findall(r"(\w+)@", ROWS)
 GROUPS = {
     "STMT": KINDS[KINDS.index("FunctionDef"):KINDS.index("Continue") + 1],
     "EXPR": KINDS[KINDS.index("BoolOp"):KINDS.index("Slice") + 1],

@@ -214,6 +214,37 @@ class LanguageTest(unittest.TestCase):
             "setdefault", "sort", "args", "encode", "decode", "hex", "fromhex", "format", "real", "imag", "numerator",
         })
 
+    def test_attributes_are_given_through_local_names(self):
+        """L18: ahead of an attribute that is assigned stands self, a parameter or a local name, and nothing else."""
+        for path, tree in self.trees.items():
+            for function in self.functions_of(tree):
+                local = {part.arg for part in ast.walk(function.args) if isinstance(part, ast.arg)}
+                local |= {
+                    part.id for part in ast.walk(function)
+                    if isinstance(part, ast.Name) and isinstance(part.ctx, ast.Store)
+                }
+                for part in ast.walk(function):
+                    if isinstance(part, ast.Attribute) and not isinstance(part.ctx, ast.Load):
+                        told = f"{path.name}:{part.lineno}"
+                        self.assertIsInstance(part.value, ast.Name, told)
+                        self.assertIn(part.value.id, local, told)
+
+    def functions_of(self, tree):
+        return [node for node in ast.walk(tree) if isinstance(node, ast.FunctionDef)]
+
+    def test_items_of_tables_are_not_assigned(self):
+        """L15: what stands at the top of a file is only read."""
+        for path, tree in self.trees.items():
+            taken = {row.targets[0].id for row in tree.body if isinstance(row, ast.Assign)}
+            taken |= {alias.asname or alias.name for row in tree.body if isinstance(row, ast.ImportFrom)
+                for alias in row.names}
+            for function in self.functions_of(tree):
+                for part in ast.walk(function):
+                    if isinstance(part, ast.Subscript) and not isinstance(part.ctx, ast.Load):
+                        self.assertNotIn(getattr(part.value, "id", ""), taken, f"{path.name}:{part.lineno}")
+                    if isinstance(part, ast.Name) and not isinstance(part.ctx, ast.Load):
+                        self.assertNotIn(part.id, taken, f"{path.name}:{part.lineno}")
+
     def test_what_is_iterated_on_the_spot(self):
         """zip, reversed and the like stand in loops, comprehensions, and calls that take them at once."""
         for place, node in self.each_node():

@@ -1,14 +1,22 @@
-"""Large texts and trees: DOC.md [3] to [5], as far as reading and writing are concerned."""
+"""Large texts and trees: DOC.md [3] to [5], for all functions that take them."""
 
 import sys
 import time
 import unittest
 
-from treequill.nodes import Node
+from treequill.blocks import scopes
+from treequill.changing import compare, transform, visit
+from treequill.errors import BadScope, NotLiteral
+from treequill.literals import literal_eval
+from treequill.nodes import Node, is_tree
 from treequill.reading import parse
+from treequill.walking import (
+    copy_tree, dump, fix_missing_locations, increment_lineno, iter_child_nodes, source_segment, walk,
+)
 from treequill.writing import unparse
 
 from helping import difference, nodes_in, place, read_again, refused
+from table import KINDS
 
 LONG = [
     "a + b - c * d\n" * 200,
@@ -45,6 +53,125 @@ DEEP = [
     "(yield " * 18 + "a" + ")" * 18, "with (" * 1 + "(" * 18 + "a" + ")" * 18 + "): b",
     "a = " + "(b := " * 18 + "c" + ")" * 18,
 ]
+
+
+NUMBERS = [
+    "x = [" + ", ".join(["9" * 200] * 14) + "]",
+    "x = {" + ", ".join(f"{at}: {'7' * 190}" for at in range(14)) + "}",
+    "x = [" + "0x" + "f" * 160 + ", 0b" + "1" * 600 + ", 0o" + "7" * 200 + "]",
+    "x = " + " + ".join(["1" * 30 + "." + "2" * 9 + "e-300", "9" * 40 + "e300", "." + "3" * 40 + "e-9999", "1e9999",
+        "4" * 39 + ".e-9999", "0." + "0" * 38 + "1e9999", "7" * 40 + "j", "1e-320", "5e-324", "1.7976931348623157e308"]),
+    "x = [" + ", ".join(f"{at}.{at}e{at * 7 - 300}" for at in range(1, 150)) + "]",
+]
+BLOCKS = [
+    "".join(" " * at + word + "\n" for at, word in enumerate(["def f(a, b=c):", "class A(b):"] * 6)) + " " * 12 + "a = b",
+    "\n".join(f"def f{at}(a, b{at}=c): return [a for d in b{at} if (e := d)]" for at in range(50)),
+    "\n".join(f"class A{at}(b):\n  def f(c): nonlocal_ = c" for at in range(60)),
+    "lambda: " + "[a for b in c if " * 15 + "d" + "]" * 15,
+    "def f():\n" + "\n".join(f"  a{at} = lambda: a{at}" for at in range(110)),
+    "def f():\n global " + ", ".join(f"a{at}" for at in range(300)) + "\n a1 = a2",
+]
+
+
+def great_tree():
+    """Return a tree of 600 nodes, some of them with 40 nodes above them."""
+    inner = Node("Name", "a")
+    for at in range(33):
+        inner = Node("UnaryOp", Node("Not" if at & 1 else "USub"), inner)
+    wide = Node("List", [Node("Constant", at) for at in range(300)])
+    pairs = Node("Dict", [Node("Constant", f"k{at}") for at in range(100)], [Node("Constant", None) for _ in range(100)])
+    block = [Node("Expr", inner), Node("Expr", wide), Node("Expr", pairs)]
+    for _ in range(5):
+        block = [Node("While", Node("Constant", True), block)]
+    return Node("Module", block)
+
+
+class GreatTest(unittest.TestCase):
+    """Every function answers within a moment."""
+
+    def within_a_moment(self, call, *args):
+        begin = time.perf_counter()
+        found = call(*args)
+        self.assertLess(time.perf_counter() - begin, 2)
+        return found
+
+    def all_calls(self, tree, text=None):
+        moment = self.within_a_moment
+        nodes = moment(walk, tree)
+        self.assertEqual([id(node) for node in nodes], [id(node) for node in nodes_in(tree)])
+        self.assertGreaterEqual(len(moment(dump, tree, True, True)), len(moment(dump, tree, True)))
+        copy = moment(copy_tree, tree)
+        self.assertIsNone(moment(compare, tree, copy, True))
+        self.assertTrue(moment(is_tree, copy))
+        self.assertIsNone(moment(compare, moment(transform, tree, {kind: lambda node: node for kind in KINDS}), tree, True))
+        self.assertEqual(len(moment(visit, tree, {kind: place for kind in KINDS})), len(nodes))
+        self.assertEqual(sum(len(iter_child_nodes(node)) for node in nodes), len(nodes) - 1)
+        moment(fix_missing_locations, copy)
+        moment(increment_lineno, copy, 5)
+        self.assertIsNone(compare(tree, copy))
+        written = moment(unparse, tree)
+        self.assertIsNone(compare(tree, moment(parse, written)))
+        try:
+            self.assertEqual(moment(scopes, tree), scopes(copy))
+        except BadScope:
+            pass
+        if text is not None:
+            moment(lambda: [source_segment(text, node) for node in nodes])
+
+    def test_great_programs(self):
+        for text in LONG + DEEP + NUMBERS + BLOCKS:
+            self.all_calls(parse(text), text)
+
+    def test_a_great_tree(self):
+        tree = great_tree()
+        self.assertTrue(570 < len(nodes_in(tree)) <= 600)
+        self.all_calls(tree)
+
+    def test_few_hundred_calls(self):
+        limit = sys.getrecursionlimit()
+        frame, used = sys._getframe(), 0
+        while frame is not None:
+            frame, used = frame.f_back, used + 1
+        try:
+            sys.setrecursionlimit(used + 500)
+            for tree in [parse(text) for text in DEEP + BLOCKS] + [great_tree()]:
+                copy = copy_tree(tree)
+                compare(copy, transform(tree, {}), True)
+                dump(tree)
+                walk(tree)
+                fix_missing_locations(copy)
+                unparse(tree)
+                try:
+                    scopes(tree)
+                except BadScope:
+                    pass
+        finally:
+            sys.setrecursionlimit(limit)
+
+    def test_great_literals(self):
+        for text in NUMBERS:
+            value = text.removeprefix("x = ")
+            try:
+                self.within_a_moment(literal_eval, value)
+            except NotLiteral as error:
+                self.assertEqual(error.path, ("body",))
+        self.assertEqual(literal_eval("[" + "9" * 200 + "]"), [10 ** 200 - 1])
+        self.assertEqual(len(literal_eval("[" + "(1, -2), " * 300 + "]")), 300)
+        self.assertEqual(len(literal_eval("{" + ", ".join(f"{at}: []" for at in range(320)) + "}")), 320)
+        deep = literal_eval("[" * 19 + "{}" + "]" * 19)
+        for _ in range(19):
+            (deep,) = deep
+        self.assertEqual(deep, {})
+
+    def test_somewhat_beyond(self):
+        node = Node("Name", "a")
+        for _ in range(60):
+            node = Node("UnaryOp", Node("Not"), node)
+        tree = Node("Expression", node)
+        self.assertIsNone(compare(copy_tree(tree), transform(tree, {})))
+        self.assertEqual(len(walk(tree)), 123)
+        self.assertEqual(dump(tree).count("Not()"), 60)
+        self.assertEqual(scopes(tree), ("module", "top", [("a", "global")], []))
 
 
 class LimitsTest(unittest.TestCase):

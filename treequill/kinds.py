@@ -173,3 +173,12 @@ GROUPS = {
     ),
     "COMPARISON": ("Eq", "NotEq", "Lt", "LtE", "Gt", "GtE", "Is", "IsNot", "In", "NotIn"),
 }
+
+# The groups, and the kinds besides, whose nodes have places.
+PLACED_GROUPS = ("STMT", "EXPR", "PATTERN")
+PLACED_KINDS = ("ExceptHandler", "arg", "keyword", "alias")
+
+
+def has_place(kind):
+    """Tell whether nodes of a kind have places in texts."""
+    return kind in PLACED_KINDS or any([kind in GROUPS[group] for group in PLACED_GROUPS])

@@ -138,7 +138,8 @@ class Lexer:
         if end is None:
             self.add_bad(self.at)
             return
-        self.add_token("NUMBER", end).value = value
+        token = self.add_token("NUMBER", end)
+        token.value = value
 
     def cut_word(self):
         """Take a name, a keyword, a string, or the beginning of an f-string."""
@@ -195,14 +196,14 @@ class Lexer:
 
     def cut_sign_of_field(self):
         sign = self.text[self.at]
+        field = self.opened[-1]
+        if sign == ":" and field.inner:
+            # A field in a spec has no spec of its own.
+            self.add_bad(self.at)
+            return
         self.add_token(sign, self.at + 1)
         if sign == ":":
-            field = self.opened[-1]
-            if field.inner:
-                # A field in a spec has no spec of its own.
-                self.tokens[-1].kind = "BAD"
-            else:
-                self.opened.append(Bracket("spec", "", False, False))
+            self.opened.append(Bracket("spec", "", False, False))
 
     def cut_text(self):
         """Take the text of an f-string up to the next field, or the end of the f-string."""
@@ -212,12 +213,17 @@ class Lexer:
             self.add_bad(end)
             return
         if end > self.at:
-            self.add_token("TEXT", end).value = value
+            self.add_piece(value, end)
         if self.text.startswith(within.quote, end):
             self.opened.pop()
             self.add_token("FEND", end + len(within.quote))
         else:
             self.open_field(False)
+
+    def add_piece(self, value, end):
+        """Add the token of a text in an f-string or a spec."""
+        token = self.add_token("TEXT", end)
+        token.value = value
 
     def open_field(self, inner):
         self.add_token("FIELD", self.at + 1)
@@ -229,7 +235,7 @@ class Lexer:
         while end < len(self.text) and self.text[end] not in "{}\\'\"\n":
             end += 1
         if end > self.at:
-            self.add_token("TEXT", end).value = self.text[self.at:end]
+            self.add_piece(self.text[self.at:end], end)
         if self.text.startswith("{", end):
             self.open_field(True)
         elif self.text.startswith("}", end):

@@ -72,7 +72,7 @@ def is_tree(thing):
             value = node[name]
             if not _fits(value, rule, mark):
                 return False
-            waiting.extend(_nodes_of(value))
+            waiting.extend(nodes_of(value))
     return True
 
 
@@ -93,7 +93,7 @@ def _fits_one(value, rule):
     return isinstance(value, Node) and value.kind in GROUPS.get(rule, (rule,))
 
 
-def _nodes_of(value):
+def nodes_of(value):
     """Return the nodes that the value of a field is, or has as its items."""
     items = value if isinstance(value, list) else [value]
     return [item for item in items if isinstance(item, Node)]
