@@ -262,6 +262,15 @@ class CompareTest(unittest.TestCase):
         others[299]["id"] = "b"
         self.assert_path(Node("List", names), Node("List", others), (("elts", 299), "id"))
 
+    def test_if_only_one_is_a_node_or_a_list(self):
+        for one in ([], [Node("Pass")], None, "a", (), (1,), 0, False, Dots(), Node("Pass"), {}):
+            for other in ([1, 2], Node("Break"), "b", Float(1, 2), True, 1, ("a",)):
+                self.assert_path(Node("Constant", one), Node("Constant", other), ("value",))
+                self.assert_path(Node("Global", ["a", one]), Node("Global", ["a", other]), (("names", 1),))
+        self.assert_path(Node("Module", ()), Node("Module", []), ("body",))
+        self.assert_path(Node("Module", [None]), Node("Module", [Node("Pass")]), (("body", 0),))
+        self.assert_path(Node("Module", Node("Pass")), Node("Module", [Node("Pass")]), ("body",))
+
     def test_agrees_with_a_comparison_of_its_own(self):
         trees = [Maker(seed).tree() for seed in range(7700, 7740)]
         for one in trees:

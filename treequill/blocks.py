@@ -4,14 +4,14 @@ from treequill.block_faults import check_members
 from treequill.block_names import note_free_names, word_for
 from treequill.block_nodes import Sorter
 from treequill.errors import BadNode
-from treequill.nodes import Node, is_tree
+from treequill.nodes import is_tree
 
 WHOLE = ("Module", "Expression")
 
 
 def scopes(tree):
     """Return the block of a Module or an Expression: a tuple of kind, name, names and the blocks in it."""
-    if not isinstance(tree, Node) or tree.kind not in WHOLE or not is_tree(tree):
+    if not is_tree(tree) or tree.kind not in WHOLE:
         raise BadNode()
     sorter = Sorter(tree)
     sorter.sort_all()

@@ -1,16 +1,16 @@
 """Compares trees, and makes changed ones."""
 
 from treequill.copying import copied, with_parts
-from treequill.errors import BadChange, BadNode
+from treequill.errors import BadChange
 from treequill.kinds import FIELDS
-from treequill.nodes import Node, fields_of
+from treequill.nodes import Node, check_node, fields_of
 from treequill.walking import walk
 
 
 def compare(one, other, places=False):
     """Return None if two trees are equal, else the path of the first difference."""
-    if not isinstance(one, Node) or not isinstance(other, Node):
-        raise BadNode()
+    check_node(one)
+    check_node(other)
     return _difference(one, other, places, ())
 
 
@@ -66,8 +66,7 @@ def visit(node, handlers):
 
 def transform(node, handlers):
     """Return a new tree in which the functions of their kinds have replaced the nodes."""
-    if not isinstance(node, Node):
-        raise BadNode()
+    check_node(node)
     made = _transformed(node, handlers)
     if not isinstance(made, Node):
         raise BadChange(node.kind, "")

@@ -1,6 +1,6 @@
 """Nodes, and which of them are trees."""
 
-from treequill.errors import BadField, BadKind
+from treequill.errors import BadField, BadKind, BadNode
 from treequill.kinds import FIELDS, GROUPS, LIST_MARKS
 from treequill.plain import CHECKS
 
@@ -58,6 +58,12 @@ def fields_of(kind):
     if not isinstance(kind, str) or kind not in FIELDS:
         raise BadKind(kind)
     return tuple([row[0] for row in FIELDS[kind]])
+
+
+def check_node(thing):
+    """Refuse what is no node."""
+    if not isinstance(thing, Node):
+        raise BadNode()
 
 
 def is_tree(thing):

@@ -4,17 +4,11 @@ from treequill.copying import copied
 from treequill.errors import BadNode, BadPlace
 from treequill.kinds import FIELDS, has_place
 from treequill.literal_text import value_text
-from treequill.nodes import Node, fields_of, nodes_of
+from treequill.nodes import Node, check_node, fields_of, nodes_of
 from treequill.plain import is_int
 
 DOCUMENTED = ("Module", "FunctionDef", "AsyncFunctionDef", "ClassDef")
 START = (1, 0, 1, 0)
-
-
-def check_node(thing):
-    """Refuse what is no node."""
-    if not isinstance(thing, Node):
-        raise BadNode()
 
 
 def walk(node):
@@ -139,7 +133,8 @@ def increment_lineno(node, n=1):
 
 def get_docstring(node, clean=True):
     """Return the docstring of a module, a function or a class, or None if it has none."""
-    if not isinstance(node, Node) or node.kind not in DOCUMENTED:
+    check_node(node)
+    if node.kind not in DOCUMENTED:
         raise BadNode()
     text = _first_string(node["body"])
     return _cleaned(text) if clean and text is not None else text

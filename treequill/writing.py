@@ -3,7 +3,7 @@
 from treequill.blame import path_to_blame
 from treequill.errors import BadNode, NoText
 from treequill.kinds import GROUPS
-from treequill.nodes import Node, is_tree
+from treequill.nodes import is_tree
 from treequill.ranks import ELEMENT
 from treequill.write_expressions import expression_text, listing_text
 from treequill.write_statements import body_lines, statement_lines
@@ -11,12 +11,10 @@ from treequill.write_statements import body_lines, statement_lines
 
 def unparse(node):
     """Return the text of a Module, an Expression, a statement or an expression."""
-    if not isinstance(node, Node):
+    if not is_tree(node):
         raise BadNode()
     is_statement = node.kind in GROUPS["STMT"]
     if node.kind not in ("Module", "Expression") and node.kind not in GROUPS["EXPR"] and not is_statement:
-        raise BadNode()
-    if not is_tree(node):
         raise BadNode()
     path = path_to_blame(node)
     if path is not None:
